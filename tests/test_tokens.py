@@ -53,6 +53,23 @@ class Bytes(unittest.TestCase):
             self.assertEqual(t, sheet(text))
             self.assertEqual(un_read(t), first)
 
+    def test_what_is_handed_in_is_not_changed_for_a_while_either(self):
+        def refuse(*arguments):
+            raise AssertionError("the list handed in is changed")
+        changes = ("append", "clear", "extend", "insert", "pop", "remove", "reverse", "sort", "__setitem__", "__delitem__",
+                   "__iadd__", "__imul__")
+        guarded = type("Guarded", (list,), {name: refuse for name in changes})
+        self.assertEqual(un_read(guarded(sheet("unit m; fn f(x) = x + m; let a = f(0);"))), [0, 3])
+        self.assertEqual(un_read(guarded(sheet("unit m; let a = m + 1;"))), [1, -61, 1])
+
+    def test_nothing_is_kept_from_one_time_to_the_next(self):
+        texts = ("unit m; let a = m;", "let a = m;", "unit m; unit a;", "fn a(m) = m;", "?", "unit m; let b = a;", "")
+        answers = [[0, 2], [1, -22, 0], [0, 2], [0, 1], [1, -71, 0], [1, -22, 1], [0, 0]]
+        for first in range(len(texts)):
+            for second in range(len(texts)):
+                self.assertEqual(read(texts[first]), answers[first])
+                self.assertEqual(read(texts[second]), answers[second])
+
     def test_kinds_of_answers(self):
         for text in ("", "unit m;", "unit m; let a = m + 1;", "?"):
             answer = read(text)
