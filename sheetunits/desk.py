@@ -1,8 +1,8 @@
 """The calls of the package."""
 
 from sheetunits.grammar import items_of
-from sheetunits.kinds import kinds_of
-from sheetunits.refusals import Refusal
+from sheetunits.kinds import kind_in_numbers, kinds_of
+from sheetunits.refusals import NoItem, Refusal
 from sheetunits.rightness import check_counts, check_right
 from sheetunits.tokens import tokens_of
 
@@ -15,6 +15,14 @@ def read_kinds(t):
     return kinds_of(sheet)
 
 
+def kind_at(k, t):
+    """The kind of item k of the sheet t; a sheet that is refused is so whatever k is."""
+    kinds = read_kinds(t)
+    if k >= len(kinds):
+        raise NoItem()
+    return kinds[k]
+
+
 def un_read(t):
     """0 and how many items the sheet has; or 1, the number below 0, and at."""
     try:
@@ -22,3 +30,12 @@ def un_read(t):
     except Refusal as refusal:
         return [1, refusal.number, refusal.at]
     return [0, len(kinds)]
+
+
+def un_kind_of(k, t):
+    """2 and the kind of item k of the sheet; or 0 and the number below 0."""
+    try:
+        kind = kind_at(k, t)
+    except Refusal as refusal:
+        return [0, refusal.number]
+    return [2] + kind_in_numbers(kind)

@@ -2,7 +2,8 @@
 
 from sheetunits.balance import bounded, solved
 from sheetunits.products import (
-    PLACES, divided, filled_in, mark_alone, marks_of, moved, nothing, place_alone, places_of, raised, times)
+    PLACES, divided, filled_in, mark_alone, marks_of, moved, nothing, place_alone, places_of, product_in_numbers,
+    raised, times)
 from sheetunits.refusals import TooMuch
 
 MOST_EQUATIONS = 256
@@ -15,6 +16,14 @@ class Kind:
         self.of = of
         self.comes = comes
         self.places = places
+
+
+def kind_in_numbers(kind):
+    """How many parameters and places the kind has, how many products of is, each of these, then comes."""
+    numbers = [len(kind.of), kind.places, len(kind.of)]
+    for product in kind.of + [kind.comes]:
+        numbers.extend(product_in_numbers(product))
+    return numbers
 
 
 class Work:

@@ -47,6 +47,11 @@ def places_of(product):
     return product[MARKS:]
 
 
+def product_in_numbers(product):
+    """The marks' exponents, then the places', each with how many they are before them."""
+    return [MARKS] + marks_of(product) + [PLACES] + places_of(product)
+
+
 def moved(product, first):
     """The product with place 0 as the place first, place 1 as the one behind it, and so on."""
     return marks_of(product) + [0] * first + places_of(product)[:PLACES - first]

@@ -2,7 +2,7 @@
 
 
 class Refusal(Exception):
-    """A sheet is refused: number is what is answered, at the item told of, else 0."""
+    """A call is refused: number is what is answered, at the item told of, else 0."""
 
     def __init__(self, number, at):
         self.number = number
@@ -42,3 +42,10 @@ class TooLarge(Refusal):
 
     def __init__(self, at):
         Refusal.__init__(self, -75, at)
+
+
+class NoItem(Refusal):
+    """The sheet has no such item as is asked for."""
+
+    def __init__(self):
+        Refusal.__init__(self, -2, 0)

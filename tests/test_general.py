@@ -3,10 +3,9 @@
 A value here is a dict of exponents: of "m" and "s", the marks, and of unknowns, numbered as they come.
 """
 
-import random
 import unittest
 
-from helper import Diagonal, kinds, read, solvable
+from helper import Diagonal, Maker, kinds, read, solvable
 
 MARKS = ("m", "s")
 
@@ -61,68 +60,6 @@ class Judge:
         if word == "by":
             return times(values[0], values[1], -1)
         return self.alike(values[0], values[1])
-
-
-def written(tree):
-    word, parts = tree[0], tree[1:]
-    if word in ("zero", "one"):
-        return {"zero": "0", "one": "2"}[word]
-    if word in ("unit", "name"):
-        return parts[0]
-    if word == "power":
-        return f"({written(parts[0])})^{parts[1]}"
-    if word == "use":
-        arguments = ",".join(written(part) for part in parts[1:])
-        return f"{parts[0]}({arguments})" if parts[0].startswith("f") else parts[0]
-    texts = [written(part) for part in parts]
-    if word == "minus":
-        return f"-({texts[0]})"
-    if word == "if":
-        return f"(if {texts[0]} < {texts[1]} then {texts[2]} else {texts[3]})"
-    return f"({texts[0]} {dict(times='*', by='/', plus='+', less='-')[word]} {texts[1]})"
-
-
-class Maker:
-    """Makes sheets of units m and s, amounts a0.. and functions f0.. by chance."""
-
-    def __init__(self, seed):
-        self.random = random.Random(seed)
-        self.trees = {}
-
-    def leaf(self, parameters):
-        choices = [("zero",), ("one",), ("unit", "m"), ("unit", "s")] + [("name", name) for name in parameters] * 3
-        choices += [("use", name) for name in self.trees if name.startswith("a")]
-        return self.random.choice(choices)
-
-    def tree(self, parameters, size):
-        if size <= 0:
-            return self.leaf(parameters)
-        word = self.random.choice(("times", "by", "plus", "less", "power", "minus", "if", "use", "times", "plus"))
-        if word == "power":
-            return ("power", self.tree(parameters, size - 1), self.random.choice((-3, -2, -1, 2, 3)))
-        if word == "minus":
-            return ("minus", self.tree(parameters, size - 1))
-        if word == "if":
-            return ("if", *[self.tree(parameters, size - 2) for part in range(4)])
-        functions = [name for name in self.trees if name.startswith("f")]
-        if word == "use" and functions:
-            name = self.random.choice(functions)
-            return ("use", name, *[self.tree(parameters, size - 2) for part in self.trees[name][0]])
-        word = "times" if word == "use" else word
-        return (word, self.tree(parameters, size - 1), self.tree(parameters, self.random.randint(0, size - 1)))
-
-    def add_item(self):
-        if self.random.random() < 0.3:
-            name, parameters = f"a{len(self.trees)}", []
-        else:
-            name, parameters = f"f{len(self.trees)}", ["x", "y", "z"][:self.random.randint(0, 3)]
-        self.trees[name] = (parameters, self.tree(parameters, self.random.randint(0, 3)))
-        return name
-
-    def text(self, name):
-        parameters, tree = self.trees[name]
-        head = f"fn {name}({','.join(parameters)})" if name.startswith("f") else f"let {name}"
-        return f"{head} = {written(tree)};"
 
 
 class System:
@@ -200,8 +137,7 @@ class RandomSheets(unittest.TestCase):
                 self.assert_told(kinds(longer)[-1], self.judged(maker, name), maker.random)
                 # d: what is behind changes nothing of what is before.
                 before, after = kinds(text), kinds(longer)
-                self.assertEqual([(k.of, k.comes, k.places) for k in before],
-                                 [(k.of, k.comes, k.places) for k in after[:-1]])
+                self.assertEqual([kind.told for kind in before], [kind.told for kind in after[:-1]])
                 counts["fits"] += 1
                 text = longer
         self.assertGreater(counts["fits"], 400)

@@ -284,8 +284,7 @@ class BehindASheet(unittest.TestCase):
         whole = kinds("".join(items))
         for count in range(len(items) + 1):
             before = kinds("".join(items[:count]))
-            self.assertEqual([(k.of, k.comes, k.places) for k in before],
-                             [(k.of, k.comes, k.places) for k in whole[:count]])
+            self.assertEqual([kind.told for kind in before], [kind.told for kind in whole[:count]])
             self.assertEqual(read("".join(items[:count])), [0, count])
 
     def test_a_refused_item_stays_the_one_refused(self):

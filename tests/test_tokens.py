@@ -2,7 +2,7 @@
 
 import unittest
 
-from helper import read, sheet
+from helper import Guarded, read, sheet
 from sheetunits.desk import un_read
 from sheetunits.tokens import tokens_of
 
@@ -54,13 +54,8 @@ class Bytes(unittest.TestCase):
             self.assertEqual(un_read(t), first)
 
     def test_what_is_handed_in_is_not_changed_for_a_while_either(self):
-        def refuse(*arguments):
-            raise AssertionError("the list handed in is changed")
-        changes = ("append", "clear", "extend", "insert", "pop", "remove", "reverse", "sort", "__setitem__", "__delitem__",
-                   "__iadd__", "__imul__")
-        guarded = type("Guarded", (list,), {name: refuse for name in changes})
-        self.assertEqual(un_read(guarded(sheet("unit m; fn f(x) = x + m; let a = f(0);"))), [0, 3])
-        self.assertEqual(un_read(guarded(sheet("unit m; let a = m + 1;"))), [1, -61, 1])
+        self.assertEqual(un_read(Guarded(sheet("unit m; fn f(x) = x + m; let a = f(0);"))), [0, 3])
+        self.assertEqual(un_read(Guarded(sheet("unit m; let a = m + 1;"))), [1, -61, 1])
 
     def test_nothing_is_kept_from_one_time_to_the_next(self):
         texts = ("unit m; let a = m;", "let a = m;", "unit m; unit a;", "fn a(m) = m;", "?", "unit m; let b = a;", "")
